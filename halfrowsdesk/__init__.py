@@ -1,0 +1,1 @@
+"""Rows of sixteen-bit floats, each step rounded once, what it raised told."""

@@ -1,0 +1,121 @@
+"""What all lanes raise together; refused calls; what is handed in stays; nothing is kept."""
+
+import unittest
+from itertools import combinations
+
+from halfrowsdesk.lanes import do, holds, is_kind
+from tests.rows import INF, ONE, REFUSED, SIGNED_EDGES, WAYS, row, some_halves
+
+# Divisions that raise a thing each, in lanes of their own.
+DIVISIONS = {
+    0: (0, 0, 1),
+    5: (ONE, 0, 2),
+    16: (0x7BFF, 0x0001, 20),
+    30: (0x0001, 0x4200, 24),
+    31: (ONE, 0x4200, 16),
+}
+
+
+class Raised(unittest.TestCase):
+    def test_lanes_raise_together(self):
+        for way in WAYS:
+            for count in range(len(DIVISIONS) + 1):
+                for lanes in combinations(DIVISIONS, count):
+                    a = row({lane: DIVISIONS[lane][0] for lane in lanes})
+                    b = row({lane: DIVISIONS[lane][1] for lane in lanes})
+                    expected = 0
+                    for lane in lanes:
+                        expected |= DIVISIONS[lane][2]
+                    with self.subTest(way=way, lanes=lanes):
+                        self.assertEqual(do(3, way, a, b, row())[0], expected)
+
+    def test_every_lane_raises(self):
+        for lane in range(32):
+            self.assertEqual(do(0, 0, row({lane: INF}), row({lane: 0xFC00}), row())[0], 1)
+            self.assertEqual(do(0, 0, row({lane: 0x7BFF}), row({lane: 0x7BFF}), row())[0], 20)
+            self.assertEqual(do(2, 0, row({lane: 0x0001}), row({lane: 0x3800}), row())[0], 24)
+            self.assertEqual(do(3, 0, row({lane: ONE}), row({lane: 0}), row())[0], 2)
+            self.assertEqual(do(4, 0, row({lane: 0x4000}), row(), row())[0], 16)
+
+    def test_lanes_do_not_mix(self):
+        for op in range(18):
+            rows = (some_halves(32, op), some_halves(32, op + 50), some_halves(32, op + 100))
+            for way in WAYS:
+                halves = do(op, way, *rows)[1:]
+                for lane in range(32):
+                    alone = do(op, way, *[row({lane: halves_in[lane]}) for halves_in in rows])
+                    self.assertEqual(alone[1 + lane], halves[lane])
+
+
+class Refused(unittest.TestCase):
+    def test_op(self):
+        for op in (18, 19, 32, 65536, 4294967295):
+            for way in WAYS:
+                self.assertEqual(do(op, way, row(), row(), row()), [REFUSED] + [0] * 32)
+
+    def test_way(self):
+        for way in (4, 5, 256, 4294967295):
+            for op in (*range(18), 18, 4294967295):
+                self.assertEqual(do(op, way, row(), row(), row()), [REFUSED] + [0] * 32)
+
+    def test_how(self):
+        for how in (32, 33, 63, 64, 4294967295):
+            self.assertEqual(holds(how, row(), row()), [REFUSED, 0])
+
+    def test_the_last_that_are_told_are_taken(self):
+        self.assertEqual(do(17, 3, row(), row(), row()), [0] * 33)
+        self.assertEqual(holds(31, row(), row()), [0, 4294967295])
+
+
+def calls(a, b, c):
+    """Every sort of call on the rows, refused ones too."""
+    for op in range(19):
+        for way in range(5):
+            yield lambda op=op, way=way: do(op, way, a, b, c)
+    for how in range(33):
+        yield lambda how=how: holds(how, a, b)
+    for which in (0, 1, 255, 256, 4294967295):
+        yield lambda which=which: is_kind(which, a)
+
+
+class Rows(unittest.TestCase):
+    def setUp(self):
+        self.rows = [list(SIGNED_EDGES[:32]), list(SIGNED_EDGES[-32:]), some_halves(32, 7)]
+
+    def test_what_is_handed_in_stays(self):
+        before = [list(halves) for halves in self.rows]
+        for call in calls(*self.rows):
+            call()
+            self.assertEqual(self.rows, before)
+
+    def test_one_list_may_be_handed_in_thrice(self):
+        a = self.rows[0]
+        for call, apart in zip(calls(a, a, a), calls(list(a), list(a), list(a))):
+            self.assertEqual(call(), apart())
+
+    def test_nothing_is_kept(self):
+        first = [call() for call in calls(*self.rows)]
+        for answer in first:
+            answer[0] += 1
+        again = [call() for call in reversed(list(calls(*self.rows)))]
+        again.reverse()
+        for answer, other in zip(first, again):
+            self.assertEqual(answer[0] - 1, other[0])
+            self.assertEqual(answer[1:], other[1:])
+            self.assertIsNot(answer, other)
+
+    def test_answers_are_lists_of_whole_numbers(self):
+        for call in calls(*self.rows):
+            answer = call()
+            self.assertIs(type(answer), list)
+            for value in answer:
+                self.assertIs(type(value), int)
+
+    def test_answers_have_all_their_numbers(self):
+        a, b, c = self.rows
+        for op in range(19):
+            for way in range(5):
+                self.assertEqual(len(do(op, way, a, b, c)), 33)
+        for how in range(33):
+            self.assertEqual(len(holds(how, a, b)), 2)
+        self.assertEqual(len(is_kind(255, a)), 2)
