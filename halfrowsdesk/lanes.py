@@ -1,15 +1,19 @@
 """The calls: each works on rows of halves, and answers what was raised, then what else is told."""
 
 from halfrowsdesk.arithmetic import add, divide, multiply, multiply_and_add, square_root
+from halfrowsdesk.complexes import imaginary_part, real_part
 from halfrowsdesk.halves import is_denormal, is_infinite, is_minus, is_no_number, is_signalling, is_zero
 from halfrowsdesk.halves import negated, rank
 from halfrowsdesk.parts import exponent, greater, less_whole_part, lesser, scaled, whole_part, without_exponent
 from halfrowsdesk.signals import INVALID, REFUSED
+from halfrowsdesk.wholes import as_whole
 
 LANES = 32
 LAST_OP = 17
 LAST_WAY = 3
 LAST_HOW = 31
+LAST_OTHER = 1
+LAST_KIND = 1
 
 LESS = 1
 EQUAL = 2
@@ -78,12 +82,12 @@ def refused(count):
 
 
 def together(answers):
-    """One answer of the lanes': what all of them raised, then their halves."""
+    """One answer of the lanes': what all of them raised, then what each of them tells."""
     raised = 0
     row = []
-    for lane_raised, half in answers:
+    for lane_raised, told in answers:
         raised = raised | lane_raised
-        row.append(half)
+        row.append(told)
     return [raised] + row
 
 
@@ -136,3 +140,24 @@ def is_kind(which, a):
         if which & kinds_of(a[lane]) != 0:
             found = found | 1 << lane
     return [0, found]
+
+
+def where(mask, a, b):
+    return [0] + [b[lane] if mask >> lane & 1 == 1 else a[lane] for lane in range(LANES)]
+
+
+def times(other, way, a, b):
+    if other > LAST_OTHER or way > LAST_WAY:
+        return refused(LANES)
+    answers = []
+    for lane in range(0, LANES, 2):
+        y_imaginary = negated(b[lane + 1]) if other == 1 else b[lane + 1]
+        answers.append(real_part(way, a[lane], a[lane + 1], b[lane], y_imaginary))
+        answers.append(imaginary_part(way, a[lane], a[lane + 1], b[lane], y_imaginary))
+    return together(answers)
+
+
+def whole(kind, way, a):
+    if kind > LAST_KIND or way > LAST_WAY:
+        return refused(LANES)
+    return together([as_whole(kind, way, half) for half in a])

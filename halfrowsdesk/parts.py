@@ -73,6 +73,13 @@ def scaled_without_end(a, b):
     return invalid_answer() if is_zero(a) else (0, with_sign(is_minus(a), INFINITY))
 
 
+def nearby_whole(way, a):
+    """What rounding a finite half to a whole number raises, and that number's magnitude."""
+    magnitude = magnitude_units(a)
+    whole = rounded_whole(way, is_minus(a), magnitude, UNIT_SHIFT)
+    return (0 if whole << UNIT_SHIFT == magnitude else INEXACT, whole)
+
+
 def whole_part(way, a):
     """a rounded to a whole number in the direction."""
     answer = no_number_answer((a,))
@@ -80,10 +87,8 @@ def whole_part(way, a):
         return answer
     if is_infinite(a):
         return (0, a)
-    magnitude = magnitude_units(a)
-    whole_units = rounded_whole(way, is_minus(a), magnitude, UNIT_SHIFT) << UNIT_SHIFT
-    half = rounded_half(way, is_minus(a), whole_units, 0)[1]
-    return (0 if whole_units == magnitude else INEXACT, half)
+    found = nearby_whole(way, a)
+    return (found[0], rounded_half(way, is_minus(a), found[1] << UNIT_SHIFT, 0)[1])
 
 
 def less_whole_part(way, a):

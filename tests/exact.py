@@ -7,6 +7,7 @@ exact number in the table of all finite halves, and ops are worked out on the nu
 import struct
 from bisect import bisect_right
 from fractions import Fraction
+from functools import cache
 from math import floor
 
 INVALID, BY_ZERO, OVER, UNDER, INEXACT = 1, 2, 4, 8, 16
@@ -15,12 +16,15 @@ NAN, INF, MINUS_INF = 0x7E00, 0x7C00, 0xFC00
 NO = (INVALID, NAN)
 
 
+@cache
 def number(half):
     return Fraction(struct.unpack("<e", half.to_bytes(2, "little"))[0])
 
 
 TABLE = [number(half) for half in range(INF)]
 SQUARES = [n * n for n in TABLE]
+# All of the table is whole in 2^-24: what lies below a number is looked for there, which is quicker.
+STEPS = [int(n * 2 ** 24) for n in TABLE]
 LEAST_NORMAL = Fraction(1, 2 ** 14)
 # The greatest number of eleven bits below it.
 BEFORE_NORMAL = LEAST_NORMAL - Fraction(1, 2 ** 25)
@@ -74,7 +78,7 @@ def rounded(way, sign, x):
     """The answer for the magnitude x with the sign."""
     if x >= 65536:
         return (OVER | INEXACT, bits(sign, INF if way == 0 or outward(way, sign, 1) else INF - 1))
-    at = bisect_right(TABLE, x) - 1
+    at = bisect_right(STEPS, floor(x * 2 ** 24)) - 1
     if TABLE[at] == x:
         return (0, bits(sign, at))
     above = TABLE[at + 1] if at + 1 < INF else Fraction(65536)
@@ -249,9 +253,42 @@ def step(op, way, lane, a, b, c):
     return numbers_step(op, way, a, b, c)
 
 
-def do(op, way, a, b, c):
-    steps = [step(op, way, j, a[j], b[j], c[j]) for j in range(32)]
+def together(answers):
     raised = 0
-    for lane_raised, _ in steps:
+    for lane_raised, _ in answers:
         raised |= lane_raised
-    return [raised] + [half for _, half in steps]
+    return [raised] + [told for _, told in answers]
+
+
+def do(op, way, a, b, c):
+    return together([step(op, way, j, a[j], b[j], c[j]) for j in range(32)])
+
+
+def in_two_steps(way, first_factors, op, last_factors):
+    """A product, rounded, then by op 5 or 7 with another one."""
+    raised, first = step(2, way, 0, *first_factors, 0)
+    raised_again, half = step(op, way, 0, *last_factors, first)
+    return (raised | raised_again, half)
+
+
+def complex_product(other, way, x, x_i, y, y_i):
+    if other:
+        y_i ^= 0x8000
+    return [in_two_steps(way, (x, y), 7, (x_i, y_i)), in_two_steps(way, (x_i, y), 5, (x, y_i))]
+
+
+def times(other, way, a, b):
+    answers = []
+    for j in range(0, 32, 2):
+        answers += complex_product(other, way, a[j], a[j + 1], b[j], b[j + 1])
+    return together(answers)
+
+
+RANGES = {0: range(-32768, 32768), 1: range(65536)}
+
+
+def as_whole(kind, way, a):
+    if nan(a) or inf(a) or whole_number(way, number(a)) not in RANGES[kind]:
+        return (INVALID, (0x8000, 0xFFFF)[kind])
+    n = whole_number(way, number(a))
+    return (0 if n == number(a) else INEXACT, n % 65536)

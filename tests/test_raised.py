@@ -3,7 +3,7 @@
 import unittest
 from itertools import combinations
 
-from halfrowsdesk.lanes import do, holds, is_kind
+from halfrowsdesk.lanes import do, holds, is_kind, times, where, whole
 from tests.rows import INF, ONE, REFUSED, SIGNED_EDGES, WAYS, row, some_halves
 
 # Divisions that raise a thing each, in lanes of their own.
@@ -65,6 +65,8 @@ class Refused(unittest.TestCase):
     def test_the_last_that_are_told_are_taken(self):
         self.assertEqual(do(17, 3, row(), row(), row()), [0] * 33)
         self.assertEqual(holds(31, row(), row()), [0, 4294967295])
+        self.assertEqual(times(1, 3, row(), row()), [0] + [0x4000, 0] * 16)
+        self.assertEqual(whole(1, 3, row()), [0] + [1] * 32)
 
 
 def calls(a, b, c):
@@ -76,6 +78,12 @@ def calls(a, b, c):
         yield lambda how=how: holds(how, a, b)
     for which in (0, 1, 255, 256, 4294967295):
         yield lambda which=which: is_kind(which, a)
+    for mask in (0, 1, 0x55555555, 0x80000000, 4294967295):
+        yield lambda mask=mask: where(mask, a, b)
+    for choice in range(3):
+        for way in range(5):
+            yield lambda choice=choice, way=way: times(choice, way, a, b)
+            yield lambda choice=choice, way=way: whole(choice, way, a)
 
 
 class Rows(unittest.TestCase):
@@ -119,3 +127,8 @@ class Rows(unittest.TestCase):
         for how in range(33):
             self.assertEqual(len(holds(how, a, b)), 2)
         self.assertEqual(len(is_kind(255, a)), 2)
+        self.assertEqual(len(where(1, a, b)), 33)
+        for choice in range(3):
+            for way in range(5):
+                self.assertEqual(len(times(choice, way, a, b)), 33)
+                self.assertEqual(len(whole(choice, way, a)), 33)
