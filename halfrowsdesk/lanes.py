@@ -6,9 +6,11 @@ from halfrowsdesk.halves import is_denormal, is_infinite, is_minus, is_no_number
 from halfrowsdesk.halves import negated, rank
 from halfrowsdesk.parts import exponent, greater, less_whole_part, lesser, scaled, whole_part, without_exponent
 from halfrowsdesk.signals import INVALID, REFUSED
-from halfrowsdesk.wholes import as_whole
+from halfrowsdesk.wholes import as_whole, of_whole
+from halfrowsdesk.wider import FLOAT, narrowed, widened
 
 LANES = 32
+FLOAT_LANES = 16
 LAST_OP = 17
 LAST_WAY = 3
 LAST_HOW = 31
@@ -161,3 +163,19 @@ def whole(kind, way, a):
     if kind > LAST_KIND or way > LAST_WAY:
         return refused(LANES)
     return together([as_whole(kind, way, half) for half in a])
+
+
+def of(kind, way, z):
+    if kind > LAST_KIND or way > LAST_WAY:
+        return refused(LANES)
+    return together([of_whole(kind, way, number) for number in z])
+
+
+def to_float(a):
+    return together([widened(FLOAT, half) for half in a])
+
+
+def of_float(way, x):
+    if way > LAST_WAY:
+        return refused(FLOAT_LANES)
+    return together([narrowed(FLOAT, way, bits) for bits in x])

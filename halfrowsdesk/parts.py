@@ -5,7 +5,7 @@ from halfrowsdesk.halves import INFINITY, MINUS_INFINITY, NO_NUMBER, ONE, UNIT_S
 from halfrowsdesk.halves import is_infinite, is_minus, is_no_number, is_zero
 from halfrowsdesk.halves import magnitude_units, negated, rank, units, with_sign
 from halfrowsdesk.signals import INEXACT, INVALID, invalid_answer, no_number_answer
-from halfrowsdesk.rounding import NEAREST, rounded_half, rounded_whole
+from halfrowsdesk.rounding import NEAREST, rounded_by_power, rounded_half, rounded_number, rounded_whole
 
 # So many powers of two lead from the least half to beyond the greatest, and from the
 # greatest to below half of the least: more of them give the same answer.
@@ -37,7 +37,7 @@ def exponent(a):
     if is_infinite(a):
         return (0, INFINITY)
     power = magnitude_units(a).bit_length() - 1 - UNIT_SHIFT
-    return rounded_half(NEAREST, power < 0, abs(power) << UNIT_SHIFT, 0)
+    return rounded_number(NEAREST, power)
 
 
 def without_exponent(a):
@@ -62,9 +62,7 @@ def scaled(way, a, b):
     if is_zero(a) or is_infinite(a):
         return (0, a)
     power = min(max(units(b) >> UNIT_SHIFT, -MOST_POWERS), MOST_POWERS)
-    if power < 0:
-        return rounded_half(way, is_minus(a), magnitude_units(a), -power)
-    return rounded_half(way, is_minus(a), magnitude_units(a) << power, 0)
+    return rounded_by_power(way, is_minus(a), magnitude_units(a), power)
 
 
 def scaled_without_end(a, b):

@@ -3,7 +3,7 @@
 The directions (way): 0 to the nearest, of two as near the even one; 1 down; 2 up; 3 towards zero.
 """
 
-from halfrowsdesk.halves import GREATEST, INFINITY, LEAST_NORMAL, with_sign
+from halfrowsdesk.halves import GREATEST, INFINITY, LEAST_NORMAL, UNIT_SHIFT, with_sign
 from halfrowsdesk.signals import INEXACT, OVERFLOW, UNDERFLOW
 
 NEAREST = 0
@@ -59,3 +59,15 @@ def rounded_half(way, minus, exact, below):
     if magnitude <= LEAST_NORMAL and is_tiny(way, minus, exact, below):
         return (UNDERFLOW | INEXACT, half)
     return (INEXACT, half)
+
+
+def rounded_by_power(way, minus, magnitude, power):
+    """The answer for magnitude times 2^power units, with the sign told."""
+    if power < 0:
+        return rounded_half(way, minus, magnitude, -power)
+    return rounded_half(way, minus, magnitude << power, 0)
+
+
+def rounded_number(way, number):
+    """The answer for a whole number."""
+    return rounded_half(way, number < 0, abs(number) << UNIT_SHIFT, 0)

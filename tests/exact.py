@@ -292,3 +292,30 @@ def as_whole(kind, way, a):
         return (INVALID, (0x8000, 0xFFFF)[kind])
     n = whole_number(way, number(a))
     return (0 if n == number(a) else INEXACT, n % 65536)
+
+
+def of_whole(kind, way, z):
+    return signed(way, Fraction(z if z in RANGES[kind] else z - 65536), 0)
+
+
+# struct's letters for the wider forms and their bytes, their infinities and quiet bits.
+WIDER = {"f": (4, 0x7F800000, 0x00400000)}
+
+
+def widened(form, a):
+    size, infinity, quiet = WIDER[form]
+    if nan(a):
+        return (INVALID if signalling(a) else 0, infinity | quiet)
+    value = struct.unpack("<e", a.to_bytes(2, "little"))[0]
+    return (0, int.from_bytes(struct.pack("<" + form, value), "little"))
+
+
+def narrowed(form, way, x):
+    size, infinity, quiet = WIDER[form]
+    sign = x >> (8 * size - 1)
+    magnitude = x & (1 << (8 * size - 1)) - 1
+    if magnitude > infinity:
+        return (0 if magnitude & quiet else INVALID, NAN)
+    if magnitude == infinity:
+        return (0, bits(sign, INF))
+    return rounded(way, sign, Fraction(struct.unpack("<" + form, magnitude.to_bytes(size, "little"))[0]))

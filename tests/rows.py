@@ -19,9 +19,9 @@ EDGES = (
 SIGNED_EDGES = EDGES + tuple(half | 0x8000 for half in EDGES)
 
 
-def row(at=None, fill=ONE):
-    """32 times fill, but for the lanes that the dict tells."""
-    halves = [fill] * 32
+def row(at=None, fill=ONE, lanes=32):
+    """As many lanes of fill, but for those that the dict tells."""
+    halves = [fill] * lanes
     for lane, half in (at or {}).items():
         halves[lane] = half
     return halves

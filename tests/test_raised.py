@@ -3,7 +3,7 @@
 import unittest
 from itertools import combinations
 
-from halfrowsdesk.lanes import do, holds, is_kind, times, where, whole
+from halfrowsdesk.lanes import do, holds, is_kind, of, of_float, times, to_float, where, whole
 from tests.rows import INF, ONE, REFUSED, SIGNED_EDGES, WAYS, row, some_halves
 
 # Divisions that raise a thing each, in lanes of their own.
@@ -67,6 +67,8 @@ class Refused(unittest.TestCase):
         self.assertEqual(holds(31, row(), row()), [0, 4294967295])
         self.assertEqual(times(1, 3, row(), row()), [0] + [0x4000, 0] * 16)
         self.assertEqual(whole(1, 3, row()), [0] + [1] * 32)
+        self.assertEqual(of(1, 3, [1] * 32), [0] + row())
+        self.assertEqual(of_float(3, [0x3F800000] * 16), [0] + [ONE] * 16)
 
 
 def calls(a, b, c):
@@ -84,17 +86,30 @@ def calls(a, b, c):
         for way in range(5):
             yield lambda choice=choice, way=way: times(choice, way, a, b)
             yield lambda choice=choice, way=way: whole(choice, way, a)
+            yield lambda choice=choice, way=way: of(choice, way, a)
+
+
+def float_calls(halves, floats):
+    """The same with shorter rows."""
+    yield lambda: to_float(halves)
+    for way in range(5):
+        yield lambda way=way: of_float(way, floats)
 
 
 class Rows(unittest.TestCase):
     def setUp(self):
         self.rows = [list(SIGNED_EDGES[:32]), list(SIGNED_EDGES[-32:]), some_halves(32, 7)]
+        self.short_rows = [list(SIGNED_EDGES[-16:]), [half << 16 | half for half in SIGNED_EDGES[14:30]]]
+
+    def all_calls(self):
+        return [*calls(*self.rows), *float_calls(*self.short_rows)]
 
     def test_what_is_handed_in_stays(self):
-        before = [list(halves) for halves in self.rows]
-        for call in calls(*self.rows):
+        rows = self.rows + self.short_rows
+        before = [list(numbers) for numbers in rows]
+        for call in self.all_calls():
             call()
-            self.assertEqual(self.rows, before)
+            self.assertEqual(rows, before)
 
     def test_one_list_may_be_handed_in_thrice(self):
         a = self.rows[0]
@@ -102,10 +117,10 @@ class Rows(unittest.TestCase):
             self.assertEqual(call(), apart())
 
     def test_nothing_is_kept(self):
-        first = [call() for call in calls(*self.rows)]
+        first = [call() for call in self.all_calls()]
         for answer in first:
             answer[0] += 1
-        again = [call() for call in reversed(list(calls(*self.rows)))]
+        again = [call() for call in reversed(self.all_calls())]
         again.reverse()
         for answer, other in zip(first, again):
             self.assertEqual(answer[0] - 1, other[0])
@@ -113,7 +128,7 @@ class Rows(unittest.TestCase):
             self.assertIsNot(answer, other)
 
     def test_answers_are_lists_of_whole_numbers(self):
-        for call in calls(*self.rows):
+        for call in self.all_calls():
             answer = call()
             self.assertIs(type(answer), list)
             for value in answer:
@@ -132,3 +147,8 @@ class Rows(unittest.TestCase):
             for way in range(5):
                 self.assertEqual(len(times(choice, way, a, b)), 33)
                 self.assertEqual(len(whole(choice, way, a)), 33)
+                self.assertEqual(len(of(choice, way, a)), 33)
+        halves, floats = self.short_rows
+        self.assertEqual(len(to_float(halves)), 17)
+        for way in range(5):
+            self.assertEqual(len(of_float(way, floats)), 17)
