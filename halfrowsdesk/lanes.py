@@ -1,16 +1,19 @@
-"""The calls: each works on rows of halves, and answers what was raised, then what else is told."""
+"""The calls: each works on rows or lists of halves, and answers what was raised, then what else is told."""
 
 from halfrowsdesk.arithmetic import add, divide, multiply, multiply_and_add, square_root
 from halfrowsdesk.complexes import imaginary_part, real_part
 from halfrowsdesk.halves import is_denormal, is_infinite, is_minus, is_no_number, is_signalling, is_zero
 from halfrowsdesk.halves import negated, rank
+from halfrowsdesk.lists import sum_in_order
 from halfrowsdesk.parts import exponent, greater, less_whole_part, lesser, scaled, whole_part, without_exponent
 from halfrowsdesk.signals import INVALID, REFUSED
 from halfrowsdesk.wholes import as_whole, of_whole
-from halfrowsdesk.wider import FLOAT, narrowed, widened
+from halfrowsdesk.wider import DOUBLE, FLOAT, narrowed, widened
 
 LANES = 32
 FLOAT_LANES = 16
+DOUBLE_LANES = 8
+LONGEST_LIST = 65536
 LAST_OP = 17
 LAST_WAY = 3
 LAST_HOW = 31
@@ -179,3 +182,19 @@ def of_float(way, x):
     if way > LAST_WAY:
         return refused(FLOAT_LANES)
     return together([narrowed(FLOAT, way, bits) for bits in x])
+
+
+def to_double(a):
+    return together([widened(DOUBLE, half) for half in a])
+
+
+def of_double(way, x):
+    if way > LAST_WAY:
+        return refused(DOUBLE_LANES)
+    return together([narrowed(DOUBLE, way, bits) for bits in x])
+
+
+def sum_of(way, x):
+    if way > LAST_WAY or len(x) > LONGEST_LIST:
+        return refused(1)
+    return list(sum_in_order(way, x))

@@ -1,4 +1,4 @@
-"""Halves as floats, and floats as halves.
+"""Halves as floats and doubles, and those as halves.
 
 A form is a tuple: how many bits of exponent, then how many of fraction.
 """
@@ -9,6 +9,7 @@ from halfrowsdesk.rounding import rounded_by_power
 from halfrowsdesk.signals import invalid_answer, no_number_answer
 
 FLOAT = (8, 23)
+DOUBLE = (11, 52)
 
 
 def sign_of(form):

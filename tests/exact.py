@@ -299,7 +299,7 @@ def of_whole(kind, way, z):
 
 
 # struct's letters for the wider forms and their bytes, their infinities and quiet bits.
-WIDER = {"f": (4, 0x7F800000, 0x00400000)}
+WIDER = {"f": (4, 0x7F800000, 0x00400000), "d": (8, 0x7FF0000000000000, 0x0008000000000000)}
 
 
 def widened(form, a):
@@ -319,3 +319,12 @@ def narrowed(form, way, x):
     if magnitude == infinity:
         return (0, bits(sign, INF))
     return rounded(way, sign, Fraction(struct.unpack("<" + form, magnitude.to_bytes(size, "little"))[0]))
+
+
+def in_order(way, x):
+    """A sum, from 0 on, each step by op 0."""
+    raised, total = 0, 0
+    for half in x:
+        step_raised, total = step(0, way, 0, total, half, 0)
+        raised |= step_raised
+    return [raised, total]

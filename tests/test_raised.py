@@ -3,7 +3,8 @@
 import unittest
 from itertools import combinations
 
-from halfrowsdesk.lanes import do, holds, is_kind, of, of_float, times, to_float, where, whole
+from halfrowsdesk.lanes import do, holds, is_kind, of, of_double, of_float, sum_of, times, to_double, to_float
+from halfrowsdesk.lanes import where, whole
 from tests.rows import INF, ONE, REFUSED, SIGNED_EDGES, WAYS, row, some_halves
 
 # Divisions that raise a thing each, in lanes of their own.
@@ -69,6 +70,8 @@ class Refused(unittest.TestCase):
         self.assertEqual(whole(1, 3, row()), [0] + [1] * 32)
         self.assertEqual(of(1, 3, [1] * 32), [0] + row())
         self.assertEqual(of_float(3, [0x3F800000] * 16), [0] + [ONE] * 16)
+        self.assertEqual(of_double(3, [0x3FF0000000000000] * 8), [0] + [ONE] * 8)
+        self.assertEqual(sum_of(3, [ONE]), [0, ONE])
 
 
 def calls(a, b, c):
@@ -89,23 +92,39 @@ def calls(a, b, c):
             yield lambda choice=choice, way=way: of(choice, way, a)
 
 
-def float_calls(halves, floats):
+def short_calls(for_floats, floats, for_doubles, doubles):
     """The same with shorter rows."""
-    yield lambda: to_float(halves)
+    yield lambda: to_float(for_floats)
+    yield lambda: to_double(for_doubles)
     for way in range(5):
         yield lambda way=way: of_float(way, floats)
+        yield lambda way=way: of_double(way, doubles)
+
+
+def list_calls(halves):
+    """The same with a list."""
+    for way in range(5):
+        yield lambda way=way: sum_of(way, halves)
 
 
 class Rows(unittest.TestCase):
     def setUp(self):
         self.rows = [list(SIGNED_EDGES[:32]), list(SIGNED_EDGES[-32:]), some_halves(32, 7)]
-        self.short_rows = [list(SIGNED_EDGES[-16:]), [half << 16 | half for half in SIGNED_EDGES[14:30]]]
+        self.short_rows = [
+            list(SIGNED_EDGES[-16:]), [half << 16 | half for half in SIGNED_EDGES[14:30]],
+            list(SIGNED_EDGES[-8:]), [half << 48 | half for half in SIGNED_EDGES[17:25]],
+        ]
+        # The last is longer than a list may be.
+        self.lists = [[], [0x8000], list(SIGNED_EDGES), some_halves(500, 8), [ONE] * 65537]
 
     def all_calls(self):
-        return [*calls(*self.rows), *float_calls(*self.short_rows)]
+        found = [*calls(*self.rows), *short_calls(*self.short_rows)]
+        for halves in self.lists:
+            found += list_calls(halves)
+        return found
 
     def test_what_is_handed_in_stays(self):
-        rows = self.rows + self.short_rows
+        rows = self.rows + self.short_rows + self.lists
         before = [list(numbers) for numbers in rows]
         for call in self.all_calls():
             call()
@@ -148,7 +167,13 @@ class Rows(unittest.TestCase):
                 self.assertEqual(len(times(choice, way, a, b)), 33)
                 self.assertEqual(len(whole(choice, way, a)), 33)
                 self.assertEqual(len(of(choice, way, a)), 33)
-        halves, floats = self.short_rows
-        self.assertEqual(len(to_float(halves)), 17)
+
+    def test_shorter_answers_have_all_their_numbers(self):
+        for_floats, floats, for_doubles, doubles = self.short_rows
+        self.assertEqual(len(to_float(for_floats)), 17)
+        self.assertEqual(len(to_double(for_doubles)), 9)
         for way in range(5):
             self.assertEqual(len(of_float(way, floats)), 17)
+            self.assertEqual(len(of_double(way, doubles)), 9)
+            for halves in self.lists:
+                self.assertEqual(len(sum_of(way, halves)), 2)
