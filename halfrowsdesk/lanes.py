@@ -4,7 +4,7 @@ from halfrowsdesk.arithmetic import add, divide, multiply, multiply_and_add, squ
 from halfrowsdesk.complexes import imaginary_part, real_part
 from halfrowsdesk.halves import is_denormal, is_infinite, is_minus, is_no_number, is_signalling, is_zero
 from halfrowsdesk.halves import negated, rank
-from halfrowsdesk.lists import sum_in_order
+from halfrowsdesk.lists import in_order, polynomial, sum_in_order
 from halfrowsdesk.parts import exponent, greater, less_whole_part, lesser, scaled, whole_part, without_exponent
 from halfrowsdesk.signals import INVALID, REFUSED
 from halfrowsdesk.wholes import as_whole, of_whole
@@ -198,3 +198,15 @@ def sum_of(way, x):
     if way > LAST_WAY or len(x) > LONGEST_LIST:
         return refused(1)
     return list(sum_in_order(way, x))
+
+
+def poly(way, x, c):
+    if way > LAST_WAY or len(c) > LONGEST_LIST:
+        return refused(1)
+    return list(polynomial(way, x, c))
+
+
+def order(x):
+    if len(x) > LONGEST_LIST:
+        return refused(0)
+    return [0] + in_order(x)

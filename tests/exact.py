@@ -6,6 +6,7 @@ exact number in the table of all finite halves, and ops are worked out on the nu
 
 import struct
 from bisect import bisect_right
+from collections import Counter
 from fractions import Fraction
 from functools import cache
 from math import floor
@@ -321,10 +322,34 @@ def narrowed(form, way, x):
     return rounded(way, sign, Fraction(struct.unpack("<" + form, magnitude.to_bytes(size, "little"))[0]))
 
 
-def in_order(way, x):
+def sum_of(way, x):
     """A sum, from 0 on, each step by op 0."""
     raised, total = 0, 0
     for half in x:
         step_raised, total = step(0, way, 0, total, half, 0)
         raised |= step_raised
     return [raised, total]
+
+
+def poly(way, x, c):
+    """From the last coefficient on, by op 2 and then by op 5."""
+    if not c:
+        return [0, 0]
+    raised, value = step(2, way, 0, c[-1], 0x3C00, 0)
+    for coefficient in reversed(c[:-1]):
+        step_raised, value = step(5, way, 0, value, x, coefficient)
+        raised |= step_raised
+    return [raised, value]
+
+
+# Minus infinity, the numbers below 0, -0, 0, the numbers above 0, infinity.
+LINED_UP = (*range(MINUS_INF, 0x7FFF, -1), *range(INF + 1))
+
+
+def order(x):
+    """Each half as often as it is there, picked from all of them lined up."""
+    counted = Counter(x)
+    found = []
+    for half in LINED_UP:
+        found += [half] * counted[half]
+    return [0] + found + [NAN] * (len(x) - len(found))

@@ -3,8 +3,8 @@
 import unittest
 from itertools import combinations
 
-from halfrowsdesk.lanes import do, holds, is_kind, of, of_double, of_float, sum_of, times, to_double, to_float
-from halfrowsdesk.lanes import where, whole
+from halfrowsdesk.lanes import do, holds, is_kind, of, of_double, of_float, order, poly, sum_of, times
+from halfrowsdesk.lanes import to_double, to_float, where, whole
 from tests.rows import INF, ONE, REFUSED, SIGNED_EDGES, WAYS, row, some_halves
 
 # Divisions that raise a thing each, in lanes of their own.
@@ -72,6 +72,7 @@ class Refused(unittest.TestCase):
         self.assertEqual(of_float(3, [0x3F800000] * 16), [0] + [ONE] * 16)
         self.assertEqual(of_double(3, [0x3FF0000000000000] * 8), [0] + [ONE] * 8)
         self.assertEqual(sum_of(3, [ONE]), [0, ONE])
+        self.assertEqual(poly(3, ONE, [ONE]), [0, ONE])
 
 
 def calls(a, b, c):
@@ -105,6 +106,19 @@ def list_calls(halves):
     """The same with a list."""
     for way in range(5):
         yield lambda way=way: sum_of(way, halves)
+        for x in (0, 0x3801, 0xC000, 0x7C01):
+            yield lambda way=way, x=x: poly(way, x, halves)
+    yield lambda: order(halves)
+
+
+class Watched(list):
+    """A list that can't be changed, not for a while either."""
+
+    def changed(self, *arguments, **named):
+        raise AssertionError("a list that was handed in is changed")
+
+    append = clear = extend = insert = pop = remove = reverse = sort = changed
+    __setitem__ = __delitem__ = __iadd__ = __imul__ = changed
 
 
 class Rows(unittest.TestCase):
@@ -129,6 +143,13 @@ class Rows(unittest.TestCase):
         for call in self.all_calls():
             call()
             self.assertEqual(rows, before)
+
+    def test_what_is_handed_in_stays_all_the_while(self):
+        expected = [call() for call in self.all_calls()]
+        self.rows = [Watched(numbers) for numbers in self.rows]
+        self.short_rows = [Watched(numbers) for numbers in self.short_rows]
+        self.lists = [Watched(numbers) for numbers in self.lists]
+        self.assertEqual([call() for call in self.all_calls()], expected)
 
     def test_one_list_may_be_handed_in_thrice(self):
         a = self.rows[0]
@@ -177,3 +198,9 @@ class Rows(unittest.TestCase):
             self.assertEqual(len(of_double(way, doubles)), 9)
             for halves in self.lists:
                 self.assertEqual(len(sum_of(way, halves)), 2)
+                self.assertEqual(len(poly(way, ONE, halves)), 2)
+
+    def test_order_answers_as_many_or_one(self):
+        for halves in self.lists[:-1]:
+            self.assertEqual(len(order(halves)), 1 + len(halves))
+        self.assertEqual(len(order(self.lists[-1])), 1)

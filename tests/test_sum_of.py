@@ -165,7 +165,7 @@ class LongLists(SumTests):
         # All below 2, so that the sums stay numbers for long.
         x = [half & 0xBFFF for half in some_halves(61000, 31)]
         for way in WAYS:
-            self.assertEqual(sum_of(way, x), exact.in_order(way, x))
+            self.assertEqual(sum_of(way, x), exact.sum_of(way, x))
 
     def test_65536_are_taken(self):
         self.assert_ways([ONE] + [ZERO] * 65535, [0, ONE])
@@ -187,7 +187,7 @@ class Refused(SumTests):
 class AgainstExact(unittest.TestCase):
     def assert_exact(self, x):
         for way in WAYS:
-            self.assertEqual(sum_of(way, x), exact.in_order(way, x), (way, [hex(half) for half in x]))
+            self.assertEqual(sum_of(way, x), exact.sum_of(way, x), (way, [hex(half) for half in x]))
 
     def test_pairs_and_triples_of_edges(self):
         for a in SIGNED_EDGES:
